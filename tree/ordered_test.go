@@ -195,7 +195,7 @@ func TestOrderedRound(t *testing.T) {
 	}
 }
 
-// TestOrderedEvery: P16.1, all trees of up to three nodes with small numbers: just those that the definition names are ordered.
+// TestOrderedEvery: P16.1, all trees of up to two nodes, and of three nodes and three things, with small numbers: just those that the definition names are ordered.
 func TestOrderedEvery(t *testing.T) {
 	var all []numbers
 	for first := -1; first <= 2; first++ {
